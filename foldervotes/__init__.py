@@ -1,0 +1,1 @@
+"""Foldervotes: folders told at both ends, mended by votes."""

@@ -1,0 +1,122 @@
+"""The form of the package: its interface, its imports, and the plain limits of its code."""
+
+import ast
+import builtins
+import pathlib
+import re
+import unittest
+
+PACKAGE = pathlib.Path(__file__).resolve().parent.parent / "foldervotes"
+FILES = sorted(PACKAGE.glob("*.py"))
+
+INTERFACE = {
+    "errors": ("VoteError",),
+    "trees": ("Tree", "place_of", "parents", "under", "beneath", "moved", "called"),
+    "views": ("telling", "unlike", "distance", "twins"),
+}
+ARGUMENTS = {
+    "place_of": ["tree", "block"], "parents": ["tree", "block"], "under": ["tree", "place"],
+    "beneath": ["tree", "place"], "moved": ["tree", "block", "place"],
+    "called": ["tree", "order"], "telling": ["tree", "view", "place"],
+    "unlike": ["tree", "other", "view"], "distance": ["view"], "twins": ["view", "blocks"],
+}
+METHODS = {"Tree": {"__init__": ["self", "hung"], "__eq__": ["self", "other"]}}
+
+BUILTIN_NAMES = {name for name in dir(builtins) if not name.startswith("__")}
+ALLOWED = set("""len range enumerate zip min max sum abs sorted reversed int str bool bytes
+list tuple dict set frozenset isinstance ord repr any all divmod pow super ValueError KeyError
+""".split())
+BARRED = (ast.Global, ast.AsyncFunctionDef, ast.AsyncFor, ast.AsyncWith, ast.Await,
+          ast.Import, ast.Set, ast.GeneratorExp)
+WORDS = set("""type typing typing_extensions enum Enum IntEnum StrEnum Flag IntFlag Generic
+Protocol ABC ABCMeta namedtuple NamedTuple TypedDict TYPE_CHECKING abstractmethod""".split())
+
+
+def nodes(path):
+    return list(ast.walk(ast.parse(path.read_text(encoding="utf-8"))))
+
+
+class Form(unittest.TestCase):
+    def test_interface_is_defined_where_it_is_listed(self):
+        for name, listed in INTERFACE.items():
+            body = ast.parse((PACKAGE / f"{name}.py").read_text()).body
+            defined = {node.name: node for node in body
+                       if isinstance(node, (ast.FunctionDef, ast.ClassDef))}
+            for thing in listed:
+                self.assertIn(thing, defined)
+                if thing in ARGUMENTS:
+                    found = [arg.arg for arg in defined[thing].args.args]
+                    self.assertEqual(found, ARGUMENTS[thing])
+                methods = {node.name: [arg.arg for arg in node.args.args]
+                           for node in getattr(defined[thing], "body", [])
+                           if isinstance(node, ast.FunctionDef)}
+                for method, arguments in METHODS.get(thing, {}).items():
+                    self.assertEqual(methods[method], arguments)
+
+    def test_folder_holds_plain_files_alone(self):
+        for path in PACKAGE.iterdir():
+            if path.name != "__pycache__":
+                self.assertRegex(path.name, r"\A[a-z_]+\.py\Z")
+
+    def test_size_and_signs(self):
+        for path in FILES:
+            text = path.read_text(encoding="utf-8")
+            self.assertLessEqual(set(text), set(map(chr, range(32, 127))) | {"\n"}, path)
+            lines = text.split("\n")
+            self.assertLessEqual(len(lines), 400, path)
+            self.assertLessEqual(max(len(line) for line in lines), 120, path)
+            for node in nodes(path):
+                if isinstance(node, ast.FunctionDef):
+                    self.assertLessEqual(node.end_lineno - node.lineno + 1, 40, node.name)
+
+    def test_imports(self):
+        asked = {}
+        for path in FILES:
+            asked[path.stem] = []
+            for node in nodes(path):
+                if isinstance(node, ast.ImportFrom):
+                    self.assertEqual(node.level, 0)
+                    self.assertRegex(node.module, r"\Afoldervotes\.[a-z_]+\Z")
+                    self.assertNotIn("*", [name.name for name in node.names])
+                    asked[path.stem].append(node.module.split(".")[1])
+        self.assertEqual(asked["__init__"], [])
+        for name in asked:
+            above = list(asked[name])
+            for other in above:
+                self.assertNotEqual(other, name)
+                above.extend(next_one for next_one in asked[other] if next_one not in above)
+
+    def test_words(self):
+        for path in FILES:
+            for node in nodes(path):
+                self.assertNotIsInstance(node, BARRED, path)
+                if isinstance(node, ast.Name) and node.id in BUILTIN_NAMES:
+                    self.assertIn(node.id, ALLOWED, path)
+                if isinstance(node, ast.Constant):
+                    self.assertNotIsInstance(node.value, (float, complex), path)
+                if isinstance(node, ast.BinOp):
+                    self.assertNotIsInstance(node.op, ast.Div, path)
+                if isinstance(node, (ast.FunctionDef, ast.ClassDef)):
+                    self.assertEqual(node.decorator_list, [])
+                    self.assertNotIn(node.name, BUILTIN_NAMES)
+                for name in (getattr(node, "id", ""), getattr(node, "attr", ""),
+                             getattr(node, "arg", "")):
+                    self.assertNotIn(name, WORDS, path)
+
+    def test_no_name_is_bound_to_a_builtin(self):
+        for path in FILES:
+            for node in nodes(path):
+                if isinstance(node, ast.arg):
+                    self.assertNotIn(node.arg, BUILTIN_NAMES)
+                if isinstance(node, ast.Name) and isinstance(node.ctx, ast.Store):
+                    self.assertNotIn(node.id, BUILTIN_NAMES)
+
+    def test_readme_names_what_landed(self):
+        text = (PACKAGE.parent / "README.md").read_text()
+        for name, listed in INTERFACE.items():
+            for thing in (f"foldervotes.{name}", *listed):
+                self.assertTrue(re.search(rf"\b{re.escape(thing)}\b", text), thing)
+
+
+if __name__ == "__main__":
+    unittest.main()

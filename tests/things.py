@@ -1,0 +1,96 @@
+"""What several tests need: all small trees, strange arguments, a check of errors."""
+
+import copy
+import itertools
+
+from foldervotes.errors import BadTree, NoBlock
+from foldervotes.trees import Tree
+
+HUGE = 10 ** 79
+
+
+def nested(make, inner, deep=40):
+    thing = inner
+    for _ in range(deep):
+        thing = make(thing)
+    return thing
+
+
+def strange_things():
+    """Objects of all kinds that an argument can be, none of them an integer or a tuple
+    of integers alone."""
+    return [
+        True, False, None,
+        "", "1", "head", "a b\n", b"", b"\x01", b"ab",
+        [], [0], [1], [1, 2], [1, 1], [0, 1, 2], [[1], 2],
+        (None,), (True, False), (1, True), ("1", "2"), (1, None), (1, (2,)), ((1, 2), 3),
+        {}, {0: 1}, {1: 1}, {(1, 2): [3]}, {"up": 1, "down": 1},
+        Tree((0,)), Tree((0, 1, 2)), (Tree((0,)),), [Tree((0,)), 1],
+        NoBlock(), BadTree(("ring", 1)),
+        nested(lambda x: [x], 1), nested(lambda x: (x,), 1), nested(lambda x: {1: x}, 1),
+        nested(lambda x: (x, x), 1, 4), nested(lambda x: [x, (1, x)], 1, 4),
+        nested(lambda x: (1, x), Tree((0,))), nested(lambda x: ("ring", x), None),
+    ]
+
+
+def not_within(least, most):
+    """What is no integer from least to most."""
+    wrong = [-HUGE, -41, -1, least - 1, most + 1, 41, HUGE, -HUGE * 10 + 1, HUGE * 10 - 1]
+    tuples = [(), (1,), (0, 0), (1, 1), (1, 2, 3)]
+    return strange_things() + tuples + [n for n in wrong if not least <= n <= most]
+
+
+ALL_VIEWS = [(up, down) for up in range(5) for down in range(5)]
+
+
+def not_views():
+    """What is no view."""
+    return strange_things() + [
+        0, 1, -1, HUGE, (), (1,), (1, 1, 1), (0, 0, 0), (5, 0), (0, 5), (5, 5), (-1, 0),
+        (0, -1), (True, 1), (1, False), (True, True), [1, 1], (1, None), ("1", "1"),
+        (HUGE, 1), (1, HUGE), ((1,), 1), (1, [1]), "11", b"\x01\x01", ((1, 1),),
+    ]
+
+
+def climb(hung, block):
+    """The places above a block, nearest first, the head last; None if a ring is met."""
+    above = []
+    while block != 0:
+        block = hung[block - 1]
+        if block in above:
+            return None
+        above.append(block)
+    return above
+
+
+def all_hung(blocks):
+    """The hung of every tree of so many blocks."""
+    found = []
+    for hung in itertools.product(range(blocks + 1), repeat=blocks):
+        if all(climb(hung, block) is not None for block in range(1, blocks + 1)):
+            found.append(hung)
+    return found
+
+
+def raised(test, error, call, *args):
+    """Checks that a call raises just this error and changes no argument; gives it."""
+    before = copy.deepcopy(args)
+    try:
+        result = call(*args)
+    except Exception as caught:
+        test.assertIs(type(caught), error, f"{call.__name__}{args!r}")
+        test.assertEqual([repr(plain(arg)) for arg in before],
+                         [repr(plain(arg)) for arg in args])
+        return caught
+    test.fail(f"{call.__name__}{args!r} is {result!r}")
+
+
+def plain(thing):
+    """A thing with trees and errors in it shown by what they keep."""
+    if isinstance(thing, (list, tuple)):
+        return type(thing)([plain(part) for part in thing])
+    if isinstance(thing, dict):
+        return {plain(key): plain(worth) for key, worth in thing.items()}
+    if isinstance(thing, (Tree, Exception)):
+        return (type(thing).__name__, plain(vars(thing)))
+    return thing
