@@ -13,14 +13,45 @@ INTERFACE = {
     "errors": ("VoteError",),
     "trees": ("Tree", "place_of", "parents", "under", "beneath", "moved", "called"),
     "views": ("telling", "unlike", "distance", "twins"),
+    "pictures": ("Picture", "seen", "is_fitting"),
+    "losses": ("known", "sure", "chances", "pieces", "open_places", "many_trees", "number_of",
+               "code", "tree_at", "always"),
+    "reads": ("reads", "plan", "is_plan", "read"),
+    "wrongs": ("wrong", "mended", "nearest", "least_wrong"),
+    "words": ("Words", "words_of", "cost", "wrong_words", "votes"),
+    "nests": ("cheapest", "nest", "is_nest"),
+    "counts": ("many_by_wrong",),
+    "histories": ("History", "now", "had", "can_stand", "is_verdict", "is_calm",
+                  "many_pictures", "verdict", "fewest_calms"),
 }
 ARGUMENTS = {
     "place_of": ["tree", "block"], "parents": ["tree", "block"], "under": ["tree", "place"],
     "beneath": ["tree", "place"], "moved": ["tree", "block", "place"],
     "called": ["tree", "order"], "telling": ["tree", "view", "place"],
     "unlike": ["tree", "other", "view"], "distance": ["view"], "twins": ["view", "blocks"],
+    "seen": ["tree", "view", "lost"], "is_fitting": ["picture", "thing"],
+    "known": ["picture"], "sure": ["picture"], "chances": ["picture", "block"],
+    "pieces": ["picture"], "open_places": ["picture"], "many_trees": ["picture"],
+    "number_of": ["picture", "tree"], "code": ["picture", "tree"],
+    "tree_at": ["picture", "number"], "always": ["view"],
+    "reads": ["picture"], "plan": ["picture"], "is_plan": ["picture", "most", "thing"],
+    "read": ["picture", "block", "thing"], "wrong": ["picture", "tree"],
+    "mended": ["picture"], "nearest": ["picture"], "least_wrong": ["picture"],
+    "words_of": ["tree"], "cost": ["words", "block", "place"],
+    "wrong_words": ["words", "tree"], "votes": ["words"], "cheapest": ["words"],
+    "nest": ["words"], "is_nest": ["words", "thing"], "many_by_wrong": ["words"],
+    "now": ["history"], "had": ["history"], "can_stand": ["history", "words"],
+    "many_pictures": ["history"], "verdict": ["history"],
+    "is_verdict": ["history", "thing"], "is_calm": ["history", "calms"],
+    "fewest_calms": ["history"],
 }
-METHODS = {"Tree": {"__init__": ["self", "hung"], "__eq__": ["self", "other"]}}
+METHODS = {
+    "Tree": {"__init__": ["self", "hung"], "__eq__": ["self", "other"]},
+    "Picture": {"__init__": ["self", "view", "blocks", "told"], "__eq__": ["self", "other"]},
+    "Words": {"__init__": ["self", "blocks", "ups", "lists"], "__eq__": ["self", "other"]},
+    "History": {"__init__": ["self", "tree", "moves"], "__eq__": ["self", "other"]},
+}
+LIBRARY = {"math": {"gcd"}, "itertools": {"combinations"}}
 
 BUILTIN_NAMES = {name for name in dir(builtins) if not name.startswith("__")}
 ALLOWED = set("""len range enumerate zip min max sum abs sorted reversed int str bool bytes
@@ -76,8 +107,12 @@ class Form(unittest.TestCase):
             for node in nodes(path):
                 if isinstance(node, ast.ImportFrom):
                     self.assertEqual(node.level, 0)
+                    names = {name.name for name in node.names}
+                    if node.module in LIBRARY:
+                        self.assertLessEqual(names, LIBRARY[node.module])
+                        continue
                     self.assertRegex(node.module, r"\Afoldervotes\.[a-z_]+\Z")
-                    self.assertNotIn("*", [name.name for name in node.names])
+                    self.assertNotIn("*", names)
                     asked[path.stem].append(node.module.split(".")[1])
         self.assertEqual(asked["__init__"], [])
         for name in asked:

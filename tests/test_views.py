@@ -7,34 +7,18 @@ import unittest
 from foldervotes.errors import NoNumber, NoPlace, NoView, OtherBlocks
 from foldervotes.trees import Tree, moved
 from foldervotes.views import distance, telling, twins, unlike
-from tests.things import (ALL_VIEWS, HUGE, all_hung, climb, not_views, not_within,
-                          raised)
+from tests.things import (ALL_VIEWS, HUGE, all_hung, chance_tree, not_views, not_within,
+                          raised, told)
 
 ROW = Tree((0, 1, 2))
 LONG = Tree(tuple(range(40)))
 BUSH = Tree((0, 1, 1, 2, 2, 4, 6, 7, 0, 9))
 
 
-def told(tree, view, place):
-    """What a place tells, as the document's words say it, from all ways to the head."""
-    up, down = view
-    ways = {block: climb(tree.hung, block) for block in range(1, len(tree.hung) + 1)}
-    row = tuple(ways[place][:up]) if place else ()
-    ties = [(block, way[0]) for block, way in ways.items() if place in way[:down]]
-    return row, tuple(sorted(ties))
-
-
 def some_trees():
     chance = random.Random(2)
     trees = [ROW, LONG, BUSH, Tree((0,)), Tree((0,) * 40), Tree((2, 3, 4, 5, 6, 0))]
-    for blocks in (5, 8, 12, 40):
-        names = list(range(1, blocks + 1))
-        chance.shuffle(names)
-        hung = {}
-        for at, block in enumerate(names):
-            hung[block] = chance.choice([0, *names[max(0, at - 4):at]])
-        trees.append(Tree(tuple(hung[block] for block in range(1, blocks + 1))))
-    return trees
+    return trees + [chance_tree(chance, blocks, 4) for blocks in (5, 8, 12, 40)]
 
 
 class Tellings(unittest.TestCase):

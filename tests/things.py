@@ -4,7 +4,10 @@ import copy
 import itertools
 
 from foldervotes.errors import BadTree, NoBlock
+from foldervotes.histories import History
+from foldervotes.pictures import Picture
 from foldervotes.trees import Tree
+from foldervotes.words import Words
 
 HUGE = 10 ** 79
 
@@ -26,6 +29,9 @@ def strange_things():
         (None,), (True, False), (1, True), ("1", "2"), (1, None), (1, (2,)), ((1, 2), 3),
         {}, {0: 1}, {1: 1}, {(1, 2): [3]}, {"up": 1, "down": 1},
         Tree((0,)), Tree((0, 1, 2)), (Tree((0,)),), [Tree((0,)), 1],
+        Picture((1, 1), 1, {0: ((), ((1, 0),))}), (Picture((0, 0), 2, {0: ((), ())}),),
+        Words(1, (0,), ((True,), (False,))), {1: Words(1, (None,), ((None,), (False,)))},
+        History(Tree((0,)), ((1, 0),)), [History(Tree((0, 1)), ())],
         NoBlock(), BadTree(("ring", 1)),
         nested(lambda x: [x], 1), nested(lambda x: (x,), 1), nested(lambda x: {1: x}, 1),
         nested(lambda x: (x, x), 1, 4), nested(lambda x: [x, (1, x)], 1, 4),
@@ -72,6 +78,32 @@ def all_hung(blocks):
     return found
 
 
+def chance_tree(chance, blocks, width):
+    """A tree by chance; the less the width, the longer its ways to the head."""
+    names = list(range(1, blocks + 1))
+    chance.shuffle(names)
+    hung = {}
+    for at, block in enumerate(names):
+        hung[block] = chance.choice([0, *names[max(0, at - width):at]])
+    return Tree(tuple(hung[block] for block in range(1, blocks + 1)))
+
+
+def told(tree, view, place):
+    """What a place tells, as the document's words say it, from all ways to the head."""
+    up, down = view
+    ways = {block: climb(tree.hung, block) for block in range(1, len(tree.hung) + 1)}
+    row = tuple(ways[place][:up]) if place else ()
+    ties = [(block, way[0]) for block, way in ways.items() if place in way[:down]]
+    return row, tuple(sorted(ties))
+
+
+def lots(items):
+    """All lots of some things."""
+    items = sorted(items)
+    return [lot for many in range(len(items) + 1)
+            for lot in itertools.combinations(items, many)]
+
+
 def raised(test, error, call, *args):
     """Checks that a call raises just this error and changes no argument; gives it."""
     before = copy.deepcopy(args)
@@ -86,11 +118,11 @@ def raised(test, error, call, *args):
 
 
 def plain(thing):
-    """A thing with trees and errors in it shown by what they keep."""
+    """A thing with objects of the package in it shown by what they keep."""
     if isinstance(thing, (list, tuple)):
         return type(thing)([plain(part) for part in thing])
     if isinstance(thing, dict):
-        return {plain(key): plain(worth) for key, worth in thing.items()}
-    if isinstance(thing, (Tree, Exception)):
+        return ("dict", [(plain(key), plain(worth)) for key, worth in thing.items()])
+    if isinstance(thing, (Tree, Picture, Words, History, Exception)):
         return (type(thing).__name__, plain(vars(thing)))
     return thing
