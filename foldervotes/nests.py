@@ -40,18 +40,22 @@ class Payments:
             lot = self.lot_to_pay()
 
     def lot_to_pay(self):
-        """A lot that no free tie enters and that free ties join, or None if there is none."""
-        leading = self.leading()
+        """A lot that no free tie enters and that free ties join, or None if there is none.
+
+        All that leads to a block to which the head doesn't lead is entered by no free tie.
+        """
+        leading = self.leading_to()
         found = None
         for block in range(1, self.blocks + 1):
             if leading[block] & 1 == 0:
                 lot = [place for place in range(1, self.blocks + 1) if leading[block] >> place & 1]
-                # What leads to something in the least lot has no less leading to it.
+                # Free ties join the least of these in all directions: else less would
+                # lead to some block of it.
                 if found is None or len(lot) < len(found):
                     found = lot
         return found
 
-    def leading(self):
+    def leading_to(self):
         """For each place, as bits, those from which free ties lead to it, itself too."""
         leading = list(self.from_places)
         for middle in range(1, self.blocks + 1):
@@ -61,7 +65,7 @@ class Payments:
         return leading
 
     def pay(self, lot):
-        """Lets a lot pay for what enters it, till one such tie more is free."""
+        """Lets a lot pay for what enters it, until one such tie is free."""
         outside = [place for place in range(self.blocks + 1) if place not in lot]
         least = min([self.left[block][place] for block in lot for place in outside])
         for block in lot:

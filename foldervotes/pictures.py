@@ -21,7 +21,7 @@ class Picture:
                 raise BadPicture(place)
         self.view = view
         self.blocks = blocks
-        self.told = {place: told[place] for place in sorted(told)}
+        self.told = dict(told)
 
     def __eq__(self, other):
         if not isinstance(other, Picture):

@@ -16,8 +16,8 @@ MOST_TREES = 60
 class Choices:
     """What the lost blocks of a picture tell in the trees that fit.
 
-    Lots of these trees are kept as bits of a number, that of a tree's number for each;
-    `parts` has for each lost block the dict from its tellings to such lots.
+    Some of these trees are kept as the bits of a number, one bit for each tree; `parts`
+    has for each lost block the dict from its tellings to the trees in which it tells so.
     """
 
     def __init__(self, picture, forest):
@@ -92,10 +92,10 @@ def _plan_for(choices, trees):
     if is_one(trees):
         return None
     fewest = choices.fewest(trees)
-    block = min([block for block in choices.useful(trees)
+    first = min([block for block in choices.useful(trees)
                  if choices.with_first(trees, block) == fewest])
-    left = choices.parted(trees, block)
-    return block, {told: _plan_for(choices, left[told]) for told in left}
+    left = choices.parted(trees, first)
+    return first, {told: _plan_for(choices, left[told]) for told in left}
 
 
 def is_plan(picture, most, thing):

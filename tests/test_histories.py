@@ -450,6 +450,19 @@ class IsVerdict(unittest.TestCase):
             # Also such of which some words are lost.
             self.assertGreater(right, 5)
 
+    def test_votes_for_a_place_that_was_not_had(self):
+        """With lost words a block can vote so; but this is no ring of what was had."""
+        history = History(Tree((0, 0, 0)), ((1, 3), (1, 0), (2, 1)))
+        words = Words(3, (None, 1, 0), ((False, False, True), (False, True, False),
+                                        (None, False, False), (False, False, False)))
+        self.assertTrue(stands(words, trees_of(history)))
+        self.assertEqual([places for _, places in votes(words)], [(2,), (1,), (0,)])
+        for ring in ((1, 2), (2, 1)):
+            self.assertIs(is_verdict(history, ("ring", ring, words)), False)
+        longer = History(history.tree, history.moves + ((2, 0), (1, 2)))
+        for ring in ((1, 2), (2, 1)):
+            self.assertIs(is_verdict(longer, ("ring", ring, words)), True)
+
     def test_words_that_cannot_stand(self):
         history = History(Tree((0, 1, 0)), ((2, 0), (1, 2)))
         _, ring, words = verdict(history)

@@ -3,6 +3,7 @@
 import fractions
 import itertools
 import random
+import time
 import unittest
 
 from foldervotes.errors import NoBlock, NoNumber, NotFitting, NoTree, NoView
@@ -214,6 +215,17 @@ class NewEachTime(unittest.TestCase):
             self.assertEqual(call(picture, *args), kept)
             self.assertEqual(picture, seen(Tree((0, 1, 2, 1)), (1, 1), (1, 2, 4)))
 
+    def test_whatever_the_order_of_what_is_told(self):
+        for view in ALL_VIEWS:
+            for lost in lots((1, 2, 3, 4)):
+                one = seen(Tree((0, 1, 2, 1)), view, lost)
+                other = Picture(view, 4, {place: one.told[place] for place in
+                                          sorted(one.told, reverse=True)})
+                for call in (known, sure, pieces, open_places, many_trees):
+                    self.assertEqual(call(one), call(other))
+                self.assertEqual([tree_at(one, at) for at in range(min(3, many_trees(one)))],
+                                 [tree_at(other, at) for at in range(min(3, many_trees(one)))])
+
     def test_equal_calls(self):
         for view in ALL_VIEWS:
             one, other = (seen(Tree((0, 1, 2, 1)), view, (1, 2)) for _ in range(2))
@@ -296,6 +308,15 @@ class FortyBlocks(unittest.TestCase):
                 self.assertLessEqual(set(ties.items()), set(fixed.items()))
                 if block in fixed:
                     self.assertEqual(shares, {fixed[block]: (1, 1)})
+
+    def test_in_a_moment(self):
+        for tree, picture in self.some_pictures():
+            before = time.monotonic()
+            for call in (known, pieces, open_places, many_trees, sure):
+                call(picture)
+            chances(picture, 40)
+            tree_at(picture, number_of(picture, tree))
+            self.assertLess(time.monotonic() - before, 5)
 
     def test_great_numbers(self):
         lost = seen(WIDE, (0, 0), ())

@@ -3,6 +3,7 @@
 import copy
 import itertools
 import random
+import time
 import unittest
 
 from foldervotes.errors import NoBlock, NoNumber, NoTelling, NoTree, NoView, TooMany
@@ -150,6 +151,9 @@ class PlansThatAreNone(unittest.TestCase):
         for other in (0, 1, -1, 5, 41, HUGE, None, "2", True, (block,)):
             self.none(picture, (other, plans))
             self.none(picture, (other, {told(Tree((0, 1, 2, 3)), (0, 1), 1): None}))
+        block, plans = plan(LOST)
+        self.assertEqual(block, 1)
+        self.none(LOST, (True, plans))
         one = seen(ROW, (1, 1), ())
         for block in range(-1, 5):
             self.none(one, (block, {told(ROW, (1, 1), max(0, min(3, block))): None}))
@@ -370,10 +374,12 @@ class Large(unittest.TestCase):
             if not 2 <= many_trees(picture) <= 60:
                 continue
             sizes.append(many_trees(picture))
+            before = time.monotonic()
             many, made = reads(picture), plan(picture)
-            self.assertEqual(deepest(made), many)
             self.assertTrue(is_plan(picture, many, made))
             self.assertFalse(is_plan(picture, many - 1, made))
+            self.assertLess(time.monotonic() - before, 5)
+            self.assertEqual(deepest(made), many)
         self.assertGreater(max(sizes), 20)
 
 

@@ -91,6 +91,8 @@ class Wrong(unittest.TestCase):
         self.assertEqual(wrong(picture, ROW), (1, 3))
         self.assertEqual(wrong(picture, Tree((0, 1, 1))), (1, 3))
         raised(self, NotFitting, wrong, picture, Tree((0, 0, 1)))
+        backwards = {place: picture.told[place] for place in sorted(picture.told, reverse=True)}
+        self.assertEqual(wrong(Picture((1, 1), 3, backwards), ROW), (1, 3))
 
     def test_other_blocks(self):
         picture = seen(ROW, (1, 1), (1,))
@@ -197,6 +199,16 @@ class Mended(unittest.TestCase):
                 block: ((), ((1, 1),)) for block in range(1, 41)}})
             self.assertIsNone(mended(picture))
             self.assertIsNone(mended(Picture(view, 40, {0: ((), ())})))
+
+    def test_whatever_the_order_of_what_is_told(self):
+        chance = random.Random(2)
+        for view in ((1, 3), (0, 2), (4, 4)):
+            picture = spoilt(chance, chance_tree(chance, 9, 3), view, (2,), 1, None)
+            places = list(picture.told)
+            chance.shuffle(places)
+            other = Picture(view, 9, {place: picture.told[place] for place in places})
+            for call in (mended, nearest, least_wrong):
+                self.assertEqual(call(picture), call(other))
 
     def test_the_picture_stays(self):
         picture = spoilt(random.Random(1), LONG, (2, 4), (4, 9), 1, None)
