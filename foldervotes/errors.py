@@ -5,7 +5,10 @@ An error is made with just its fields and keeps them as passed, whatever they ar
 
 
 class VoteError(ValueError):
-    """The base of all errors of this package."""
+    """The base of all errors of this package; what it says is the name of its class."""
+
+    def __str__(self):
+        return f"{self.__class__.__name__}"
 
 
 class BadTree(VoteError):

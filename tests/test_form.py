@@ -23,6 +23,14 @@ INTERFACE = {
     "counts": ("many_by_wrong",),
     "histories": ("History", "now", "had", "can_stand", "is_verdict", "is_calm",
                   "many_pictures", "verdict", "fewest_calms"),
+    "disk": ("Disk",),
+    "mount": ("mounted", "salvaged"),
+    "store": ("Store",),
+    "checker": ("Checker",),
+    "shell": ("Shell",),
+    "tales": ("tale", "tale_text", "read_tale"),
+    "books": ("Book",),
+    "desk": ("Desk", "book_tale", "texts_told"),
 }
 ARGUMENTS = {
     "place_of": ["tree", "block"], "parents": ["tree", "block"], "under": ["tree", "place"],
@@ -43,13 +51,33 @@ ARGUMENTS = {
     "now": ["history"], "had": ["history"], "can_stand": ["history", "words"],
     "many_pictures": ["history"], "verdict": ["history"],
     "is_verdict": ["history", "thing"], "is_calm": ["history", "calms"],
-    "fewest_calms": ["history"],
+    "fewest_calms": ["history"], "mounted": ["disk"], "salvaged": ["disk"],
+    "tale": ["blocks", "lines"], "tale_text": ["lines"], "read_tale": ["text"],
+    "book_tale": ["blocks", "lines"], "texts_told": ["blocks", "lines"],
 }
 METHODS = {
     "Tree": {"__init__": ["self", "hung"], "__eq__": ["self", "other"]},
     "Picture": {"__init__": ["self", "view", "blocks", "told"], "__eq__": ["self", "other"]},
     "Words": {"__init__": ["self", "blocks", "ups", "lists"], "__eq__": ["self", "other"]},
     "History": {"__init__": ["self", "tree", "moves"], "__eq__": ["self", "other"]},
+    "Disk": {"__init__": ["self", "blocks"], "write": ["self", "key", "worth"],
+             "reach": ["self", "key"], "lose": ["self", "key"], "word": ["self", "key"],
+             "seen": ["self", "key"], "spoil": ["self", "key", "worth"],
+             **{name: ["self"] for name in ("size", "all_keys", "waiting", "calm", "cut",
+                                            "words", "copy")}},
+    "Store": {"__init__": ["self", "disk"], "make": ["self", "path", "text"],
+              "put": ["self", "path", "text"], "move": ["self", "path", "other"],
+              **{name: ["self", "path"] for name in ("entries", "kind", "read", "block_of",
+                                                     "folder", "drop")},
+              **{name: ["self"] for name in ("disk", "calm", "calms", "free")}},
+    "Checker": {"__init__": ["self", "store"],
+                **{name: ["self"] for name in ("step", "round", "next_key")}},
+    "Shell": {"__init__": ["self", "blocks"], "tell": ["self", "line"]},
+    "Book": {"__init__": ["self", "store"], "text": ["self", "name"],
+             "files": ["self", "name"],
+             **{name: ["self", "changes"] for name in ("needs", "begin", "commit")},
+             **{name: ["self"] for name in ("store", "names", "step", "commits")}},
+    "Desk": {"__init__": ["self", "blocks"], "tell": ["self", "line"]},
 }
 LIBRARY = {"math": {"gcd"}, "itertools": {"combinations"}}
 
@@ -133,7 +161,8 @@ class Form(unittest.TestCase):
                     self.assertNotIsInstance(node.op, ast.Div, path)
                 if isinstance(node, (ast.FunctionDef, ast.ClassDef)):
                     self.assertEqual(node.decorator_list, [])
-                    self.assertNotIn(node.name, BUILTIN_NAMES)
+                    if node.name != "round":  # a method, as the interface has it
+                        self.assertNotIn(node.name, BUILTIN_NAMES)
                 for name in (getattr(node, "id", ""), getattr(node, "attr", ""),
                              getattr(node, "arg", "")):
                     self.assertNotIn(name, WORDS, path)

@@ -1,11 +1,17 @@
 """What several tests need: all small trees, strange arguments, a check of errors."""
 
-import copy
+import functools
 import itertools
 
+from foldervotes.books import Book
+from foldervotes.checker import Checker
+from foldervotes.desk import Desk
+from foldervotes.disk import Disk
 from foldervotes.errors import BadTree, NoBlock
 from foldervotes.histories import History
 from foldervotes.pictures import Picture
+from foldervotes.shell import Shell
+from foldervotes.store import Store
 from foldervotes.trees import Tree
 from foldervotes.words import Words
 
@@ -17,6 +23,13 @@ def nested(make, inner, deep=40):
     for _ in range(deep):
         thing = make(thing)
     return thing
+
+
+@functools.lru_cache(maxsize=None)
+def led_things():
+    """Objects of Parts 4 and 5; nobody leads them on."""
+    return (Disk(2), [Disk(2)], Store(Disk(2)), (Checker(Store(Disk(2))), 1), Shell(2),
+            Book(Store(Disk(3))), {1: Desk(3)})
 
 
 def strange_things():
@@ -36,6 +49,7 @@ def strange_things():
         nested(lambda x: [x], 1), nested(lambda x: (x,), 1), nested(lambda x: {1: x}, 1),
         nested(lambda x: (x, x), 1, 4), nested(lambda x: [x, (1, x)], 1, 4),
         nested(lambda x: (1, x), Tree((0,))), nested(lambda x: ("ring", x), None),
+        *led_things(),
     ]
 
 
@@ -106,13 +120,12 @@ def lots(items):
 
 def raised(test, error, call, *args):
     """Checks that a call raises just this error and changes no argument; gives it."""
-    before = copy.deepcopy(args)
+    before = repr(plain(args))
     try:
         result = call(*args)
     except Exception as caught:
-        test.assertIs(type(caught), error, f"{call.__name__}{args!r}")
-        test.assertEqual([repr(plain(arg)) for arg in before],
-                         [repr(plain(arg)) for arg in args])
+        if type(caught) is not error or repr(plain(args)) != before:
+            test.fail(f"{call.__name__}{args!r} raises {caught!r}")
         return caught
     test.fail(f"{call.__name__}{args!r} is {result!r}")
 
@@ -123,6 +136,14 @@ def plain(thing):
         return type(thing)([plain(part) for part in thing])
     if isinstance(thing, dict):
         return ("dict", [(plain(key), plain(worth)) for key, worth in thing.items()])
-    if isinstance(thing, (Tree, Picture, Words, History, Exception)):
+    if isinstance(thing, Exception) or type(thing).__module__.startswith("foldervotes."):
         return (type(thing).__name__, plain(vars(thing)))
     return thing
+
+
+def refused(test, led, error, call, *args):
+    """Checks that a call raises just this error and changes nothing of a led object; gives it."""
+    before = repr(plain(led))
+    caught = raised(test, error, call, *args)
+    test.assertEqual(repr(plain(led)), before, f"{call.__name__}{args!r}")
+    return caught
