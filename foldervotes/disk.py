@@ -137,16 +137,14 @@ def _new_words(blocks):
 
 
 def _is_key(blocks, thing):
-    if not isinstance(thing, tuple) or len(thing) < 2 or not isinstance(thing[0], str):
+    if not isinstance(thing, tuple) or not 2 <= len(thing) <= 3:
         return False
     # A flag in the place of a number is equal to it, so the keys are not just looked up.
     if not is_within(FREE + 1, blocks, thing[-1]):
         return False
     if len(thing) == 2:
         return thing[0] == "up" or thing[0] == "body"
-    if len(thing) != 3 or thing[0] != "lists":
-        return False
-    return is_within(0, blocks, thing[1]) and thing[1] != thing[2]
+    return thing[0] == "lists" and is_within(0, blocks, thing[1]) and thing[1] != thing[2]
 
 
 def _is_worth(blocks, key, thing):
@@ -168,4 +166,4 @@ def _is_up(blocks, block, thing):
 
 def _is_label(thing):
     """Whether a thing is a name, be it "", by which what hangs under block 1 is called."""
-    return isinstance(thing, str) and (thing == "" or is_name(thing))
+    return thing == "" or is_name(thing)

@@ -8,7 +8,7 @@ class VoteError(ValueError):
     """The base of all errors of this package; what it says is the name of its class."""
 
     def __str__(self):
-        return f"{self.__class__.__name__}"
+        return str(self.__class__.__name__)
 
 
 class BadTree(VoteError):

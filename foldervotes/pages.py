@@ -14,7 +14,7 @@ class Pages:
 
     def __init__(self, texts, files, parts):
         self.texts = {name: texts[name] for name in sorted(texts)}
-        self.files = {name: list(files[name]) for name in sorted(files)}
+        self.files = {name: list(files[name]) for name in self.texts}
         self.parts = list(parts)
 
     def root(self):
@@ -63,7 +63,7 @@ def files_in(index):
     at = 0
     while at < len(words):
         name = words[at]
-        many = _count_in(words[at + 1:at + 2])
+        many = _count_told(words[at + 1:at + 2])
         behind = at + 2 + many
         if many < 0 or behind > len(words) or name <= last:
             return None
@@ -73,11 +73,11 @@ def files_in(index):
     return files
 
 
-def _count_in(words):
-    """The number of pieces that a letter tells; words has it, or it is missing: -1."""
-    if len(words) == 1 and len(words[0]) == 1:
-        return COUNTS.find(words[0])
-    return -1
+def _count_told(words):
+    """The number of pieces that a word tells; -1 if it is no such letter, or is missing."""
+    if words == [] or len(words[0]) > 1:
+        return -1
+    return COUNTS.find(words[0])
 
 
 def part_text(following, signs):
@@ -87,8 +87,8 @@ def part_text(following, signs):
 
 def part_in(own, text):
     """The pair of the name that follows a part, and its signs; None for no text of a part."""
-    following, blank, signs = text.partition(" ")
-    if not is_name(following) or blank == "" or not 1 <= len(signs) <= PART_SIGNS:
+    following, _, signs = text.partition(" ")
+    if not is_name(following) or not 1 <= len(signs) <= PART_SIGNS:
         return None
     if following != own and len(signs) < PART_SIGNS:
         return None

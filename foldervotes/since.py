@@ -6,7 +6,8 @@ from foldervotes.disk import FREE
 class Since:
     """For each block the places that it had, for each place and name the block that had it.
 
-    No two blocks had one name under one place but block 1, as a calm comes ahead of that.
+    No two blocks had one name under one place but block 1, as a calm comes ahead of that;
+    the names there are not kept.
     """
 
     def __init__(self, hung, names):
@@ -29,7 +30,7 @@ class Since:
 
     def wants_calm(self, block, place, name):
         """Whether a new tie, with those that were had, could do harm behind a cut."""
-        if place != FREE and self.holders.get((place, name), block) != block:
+        if self.holders.get((place, name), block) != block:
             return True
         return self._makes_ring(block, place) or self._leads_used_to_free(block, place)
 

@@ -79,6 +79,10 @@ class Life:
         self.kept = texts_of(self.book)
         self.test.assertIn(self.kept, allowed)
         self.look(allowed)
+        # A root that the elder book wrote may wait yet, if no file had to be dropped.
+        key = ("body", self.book.store().block_of("/root"))
+        if key in dict(self.disk.waiting()):
+            self.disk.reach(key)
         self.look([self.kept])
 
     def reach(self):
@@ -121,11 +125,11 @@ class Life:
             way = self.chance.random()
             if way < 0.4 and store.free() and "/mine" not in mine:
                 store.make("/mine", "text")
+            elif mine and way < 0.7 and store.kind(mine[0]) == "file":
+                store.put(mine[0], self.chance.choice(["one", "two"]))
             elif mine:
-                if way < 0.7:
-                    store.put(self.chance.choice(mine), self.chance.choice(["one", "two"]))
-                else:
-                    store.drop(self.chance.choice(mine))
+                # Behind a cut a file may be there as a folder.
+                store.drop(mine[0])
             self.look([self.kept])
 
 

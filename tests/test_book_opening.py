@@ -184,9 +184,11 @@ class Reading(Opening):
         last = good_book()["/book/g"]
         for text in ("", "g", "g ", " g", "  ", "gx", "g" + last, "abcdefghi x", " " + last,
                      "g " + "x" * 32, "f " + "x" * 30, "h " + "x" * 30, "h x", "h " + "x" * 32,
-                     "h", "h ", last[2:], "x" * 40, " " * 40):
+                     "h", "h ", last[2:], "x" * 40, " " * 40, " " + "x" * 31,
+                     " " + last[2:], "abcdefghi " + "x" * 30):
             self.assertEqual(self.bad(good_book({"/book/g": text})), "/book/g", text)
-        for text in ("", "f", "f ", "g ", "g x", "g " + "x" * 30, "g " + "x" * 32, "x" * 40):
+        for text in ("", "f", "f ", "g ", "g x", "g " + "x" * 30, "g " + "x" * 32, "x" * 40,
+                     " " + "x" * 31):
             self.assertEqual(self.bad(good_book({"/book/f": text})), "/book/f", text)
         # The next one would be told, but this is no part.
         self.assertEqual(self.bad(good_book({"/book/f": "h x", "/book/g": "gone"})), "/book/f")
@@ -203,7 +205,7 @@ class Reading(Opening):
 
     def test_no_index(self):
         for index in (" ", "x", "x ", " x a", "x a ", "x  a", "x b", "x a b", "x b a b", "x l",
-                      "x aa", "x z", "abcdefghi a", "x b abcdefghi", "x a x a", "y a x a",
+                      "x aa", "x ab", "x bc a", "x z", "abcdefghi a", "x b abcdefghi", "x a x a", "y a x a",
                       "x a  y a", "x c a", "x c a b y", "x k a b c d e f g h i", "aa a a a",
                       "x b  a", "x a y a w a"):
             self.assertEqual(self.bad(self.with_index(index)), "/root", index)

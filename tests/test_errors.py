@@ -87,6 +87,11 @@ class ErrorFields(unittest.TestCase):
                 self.assertEqual(vars(again), vars(error))
             self.assertIsInstance(str(error), str)
 
+    def test_what_an_error_says_is_the_name_of_its_class(self):
+        for name, fields in FIELDS.items():
+            self.assertEqual(str(getattr(errors, name)(*fields)), name)
+        self.assertEqual(str(VoteError()), "VoteError")
+
     def test_equal_to_nothing_of_another_class(self):
         made = [getattr(errors, name)(*[1] * len(fields)) for name, fields in FIELDS.items()]
         for at, error in enumerate(made):

@@ -175,6 +175,29 @@ class Form(unittest.TestCase):
                 if isinstance(node, ast.Name) and isinstance(node.ctx, ast.Store):
                     self.assertNotIn(node.id, BUILTIN_NAMES)
 
+    def test_no_name_has_two_meanings(self):
+        for path in FILES:
+            tree = ast.parse(path.read_text(encoding="utf-8"))
+            bound = [name.name for node in tree.body if isinstance(node, ast.ImportFrom)
+                     for name in node.names]
+            self.assertLessEqual(set(bound), {node.id for node in ast.walk(tree)
+                                              if isinstance(node, ast.Name)}, path)
+            bound += [node.name for node in tree.body
+                      if isinstance(node, (ast.FunctionDef, ast.ClassDef))]
+            bound += [node.targets[0].id for node in tree.body if isinstance(node, ast.Assign)]
+            self.assertEqual(len(bound), len(set(bound)), path)
+            for function in [node for node in ast.walk(tree) if isinstance(node, ast.FunctionDef)]:
+                local = {arg.arg for arg in function.args.args}
+                local |= {node.id for node in ast.walk(function) if isinstance(node, ast.Name)
+                          and isinstance(node.ctx, ast.Store)}
+                self.assertFalse(local & set(bound), (path, function.name))
+            for kind in [node for node in tree.body if isinstance(node, ast.ClassDef)]:
+                methods = [node.name for node in kind.body if isinstance(node, ast.FunctionDef)]
+                stored = {node.attr for node in ast.walk(kind) if isinstance(node, ast.Attribute)
+                          and isinstance(node.ctx, ast.Store)}
+                self.assertEqual(len(methods), len(set(methods)), kind.name)
+                self.assertFalse(stored & set(methods), kind.name)
+
     def test_readme_names_what_landed(self):
         text = (PACKAGE.parent / "README.md").read_text()
         for name, listed in INTERFACE.items():

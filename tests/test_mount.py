@@ -325,6 +325,7 @@ class Salvaged(unittest.TestCase):
                          ("", "c", "a", "b", "d"))
         self.assertEqual(self.of((0, 0, 0, 2, 2), ("", "c", "", "c", ""))[1],
                          ("", "c", "a", "c", "a"))
+        self.assertEqual(self.of((0, 4, 4, 0), ("", "x", "x", "x"))[1], ("", "x", "a", "x"))
 
     def test_no_name_for_one_block(self):
         self.assertEqual(self.of((0, 0, 1), ("", "", ""))[1], ("", "a", ""))
